@@ -288,6 +288,25 @@ func TestAppendRoom(t *testing.T) {
 	stands(t, j, 0, 1, turnFrame(1)+frame('D', "abc"), false)
 }
 
+// A record that has no room is refused for that, whatever the tape's plan is, and leaves the plan as it was.
+func TestAppendRoomAndPlan(t *testing.T) {
+	for n := range 3 {
+		d := tape.New(len(turnFrame(1)))
+		j := open(t, d, "")
+		must(t, "Arm", d.Arm(n, 0), api.OK)
+		for range 3 {
+			must(t, "no room", j.Append(nil), api.ErrRoom)
+			stands(t, j, 0, 1, turnFrame(1), true)
+		}
+		for range n {
+			must(t, "Sync", j.Sync(), api.OK)
+		}
+		must(t, "no room", j.Append([]byte("abc")), api.ErrRoom)
+		must(t, "power goes", j.Sync(), api.ErrPower)
+		must(t, "power ahead of room", j.Append(nil), api.ErrPower)
+	}
+}
+
 func TestAppendMemory(t *testing.T) {
 	d := tape.New(1000)
 	j := open(t, d, "")
@@ -419,22 +438,22 @@ func TestLayWithoutRoom(t *testing.T) {
 	stands(t, j, 0, 3, news, true)
 }
 
-// The Clear behind ErrRoom is an operation, at which power may go.
+// The Clear behind ErrRoom is an operation, at which power may go; the Append that has no room is none.
 func TestLayWithoutRoomAndPower(t *testing.T) {
 	big := strings.Repeat("b", 200)
-	for n := range 5 {
+	for n := range 4 {
 		d := tape.New(100)
 		j := open(t, d, "")
 		add(t, j, "a-")
 		must(t, "Sync", j.Sync(), api.OK)
 		must(t, "Arm", d.Arm(n, 100), api.OK)
-		// Clear, p, the great one, which has no room, Clear again.
+		// Clear, p, then the great one, which has no room and is not counted, Clear again.
 		want := api.ErrPower
-		if n == 4 {
+		if n == 3 {
 			want = api.ErrRoom
 		}
 		must(t, "Lay", j.Lay(list("p-"+big+"-")), want)
-		if j.On() != (n == 4) || j.Turn() != 1 {
+		if j.On() != (n == 3) || j.Turn() != 1 {
 			t.Errorf("plan of %d: on %v, turn %d", n, j.On(), j.Turn())
 		}
 		d.Fail(100)

@@ -217,13 +217,13 @@ func TestSyncAndClearErrorsInOrder(t *testing.T) {
 
 // P15.2, plans
 
-// operations are one of each kind, and an Append that has no room on a tape of 12 that is filled.
+// operations are one of each kind, on a tape of 12 that is filled.
 func operations() map[string]func(*Tape) api.Errno {
 	return map[string]func(*Tape) api.Errno{
 		"Append":         func(d *Tape) api.Errno { return d.Append(0, []byte("x")) },
 		"Append nothing": func(d *Tape) api.Errno { return d.Append(1, nil) },
-		"Append too much": func(d *Tape) api.Errno {
-			return d.Append(0, []byte("xyzxyz"))
+		"Append all the room": func(d *Tape) api.Errno {
+			return d.Append(0, make([]byte, 12-d.Used()))
 		},
 		"Sync":  func(d *Tape) api.Errno { return d.Sync(1) },
 		"Clear": func(d *Tape) api.Errno { return d.Clear(0) },
@@ -251,12 +251,13 @@ func TestPlanAtOnce(t *testing.T) {
 func TestPlanCounts(t *testing.T) {
 	for name, operation := range operations() {
 		for n := range 5 {
-			d := filled(t, 12)
+			d := filled(t, 100)
 			must(t, "Arm", d.Arm(n, 0), api.OK)
 			for range n {
-				if err := operation(d); err != api.OK && err != api.ErrRoom || !d.On() {
-					t.Errorf("%s, plan of %d: %d", name, n, int(err))
-				}
+				must(t, name, operation(d), api.OK)
+			}
+			if !d.On() {
+				t.Errorf("%s, plan of %d: power went too early", name, n)
 			}
 			must(t, name, d.Sync(0), api.ErrPower)
 			if d.On() {
@@ -293,6 +294,48 @@ func TestPlanOfOthers(t *testing.T) {
 	}
 	must(t, "Sync", d.Sync(0), api.OK)
 	must(t, "Sync", d.Sync(0), api.ErrPower)
+}
+
+// P15.6: nor does an Append that is refused for room touch the plan, wherever the plan stands.
+func TestPlanAndRoom(t *testing.T) {
+	for n := range 4 {
+		d := filled(t, 12)
+		must(t, "Arm", d.Arm(n, 1), api.OK)
+		for left := n; left >= 0; left-- {
+			before := look(d)
+			for area := range 2 {
+				must(t, "Append too much", d.Append(area, []byte("xyz")), api.ErrRoom)
+			}
+			if look(d) != before {
+				t.Errorf("plan of %d, %d left: what was refused changed %+v to %+v", n, left, before, look(d))
+			}
+			if left > 0 {
+				must(t, "Append nothing", d.Append(0, nil), api.OK)
+			}
+		}
+		if ops, fails := d.Counts(); ops != 6+n || fails != 0 || !d.On() {
+			t.Errorf("plan of %d: %d operations, %d failures, on %v", n, ops, fails, d.On())
+		}
+		must(t, "Sync", d.Sync(0), api.ErrPower)
+		must(t, "power ahead of room", d.Append(0, []byte("xyz")), api.ErrPower)
+		must(t, "Power", d.Power(), api.OK)
+		has(t, d, 0, "abcd", 4)
+		has(t, d, 1, "fgh", 3)
+	}
+}
+
+// On a tape without room there are operations still, and just these meet the plan.
+func TestPlanWithoutAnyRoom(t *testing.T) {
+	d := New(0)
+	must(t, "Arm", d.Arm(1, 0), api.OK)
+	must(t, "one byte", d.Append(0, []byte{0}), api.ErrRoom)
+	must(t, "nothing", d.Append(0, nil), api.OK)
+	must(t, "one byte", d.Append(1, []byte{0}), api.ErrRoom)
+	if ops, fails := d.Counts(); ops != 1 || fails != 0 || !d.On() {
+		t.Errorf("%d operations, %d failures, on %v", ops, fails, d.On())
+	}
+	must(t, "nothing", d.Append(1, nil), api.ErrPower)
+	must(t, "one byte", d.Append(1, []byte{0}), api.ErrPower)
 }
 
 func TestPlanInPlaceOfAnother(t *testing.T) {
@@ -527,11 +570,11 @@ func (m *model) append(i int, s string) api.Errno {
 	if i != 0 && i != 1 {
 		return api.ErrArg
 	}
+	if m.on && len(m.bytes[0]+m.bytes[1]+s) > m.room {
+		return api.ErrRoom
+	}
 	if err := m.power(); err != api.OK {
 		return err
-	}
-	if len(m.bytes[0]+m.bytes[1]+s) > m.room {
-		return api.ErrRoom
 	}
 	m.bytes[i] += s
 	m.ops++
