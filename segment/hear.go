@@ -120,11 +120,10 @@ func (s *Segment) hearNew(m api.Msg, x api.Envelope, out *api.Said) api.Errno {
 	if m.View == s.view && s.isReady() {
 		return api.OK
 	}
+	// A view that was waited for does not get its time anew: else who leads it could take twice the Timeout by beginning late.
 	if m.View > s.view {
 		s.setView(out, m.View)
 	}
-	// From here on the view has its whole time, however long was waited for its beginning.
-	s.age = 0
 	s.acceptAll(out, change.Choose(s.epoch, s.leader, l))
 	return api.OK
 }

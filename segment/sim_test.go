@@ -529,6 +529,62 @@ func TestLivesAmongLiars(t *testing.T) {
 	}
 }
 
+// beginLate lets the faulty node that leads a view begin it with the changes that were told, to some honest nodes alone.
+func (s *sim) beginLate(view, most int, to []int) {
+	var news []api.Envelope
+	for node := range s.nodes {
+		if l := s.moves[view][node]; len(l) > 0 && len(news) < most {
+			news = append(news, s.seal(node, l[0]))
+		}
+	}
+	body := s.bytes(api.Msg{Kind: api.MsgNew, Epoch: s.e.Number, Leader: s.leader, View: view, News: news})
+	for _, i := range to {
+		s.hear(packet{s.primary(view), i, body})
+	}
+}
+
+// late runs a segment whose leader is silent, and whose next views, Faults in all, are led by faulty nodes that begin them so many rounds behind the moment at which they could, and tell it to so many honest nodes. It tells behind how many rounds all is decided.
+func late(t *testing.T, c api.Config, wait, told int) int {
+	faults, most := quorum.Faults(c.Nodes), quorum.Most(c.Nodes)
+	var faulty []int
+	for i := range faults {
+		faulty = append(faulty, 1+i)
+	}
+	s := newSim(t, c, 1, faulty, map[string]int{})
+	since := make([]int, faults)
+	for round := range bound(c) + 1 {
+		if s.done() {
+			return round
+		}
+		s.round(0)
+		for view := 1; view < faults; view++ {
+			if len(s.moves[view]) >= most && since[view] == 0 {
+				since[view] = round
+			}
+			if since[view] > 0 && round == since[view]+wait {
+				s.beginLate(view, most, s.honest()[:told])
+			}
+		}
+	}
+	t.Fatalf("%d nodes, begun %d rounds late, told %d nodes: it is not decided behind %d rounds", c.Nodes, wait, told, bound(c))
+	return 0
+}
+
+func TestLivesWithLateBeginnings(t *testing.T) {
+	c := config()
+	c.Slots, c.Timeout = 1, api.MaxTimeout
+	for _, n := range []int{7, 16, 19} {
+		c.Nodes = n
+		most := quorum.Most(n)
+		for _, told := range []int{1, quorum.Some(n), most - 1} {
+			// A view that is begun late takes no longer than one that is not begun.
+			if silent, got := late(t, c, c.Timeout, told), late(t, c, c.Timeout-3, told); got > silent {
+				t.Errorf("%d nodes, told %d: %d rounds, with silent nodes %d", n, told, got, silent)
+			}
+		}
+	}
+}
+
 // Rule 5: what is done twice comes to the same.
 
 func TestTwiceTheSame(t *testing.T) {

@@ -103,15 +103,14 @@ func (s *Segment) follow(out *api.Said) {
 // goTo goes to a view, and says what is taken along.
 func (s *Segment) goTo(out *api.Said, view int) {
 	s.setView(out, view)
-	s.age = 0
 	s.takeAlong(view)
 	say(out, change.Body(s.changes[s.me].change))
 	s.begin(out)
 }
 
-// setView makes a view the segment's.
+// setView makes a view the segment's, with its whole time.
 func (s *Segment) setView(out *api.Said, view int) {
-	s.view = view
+	s.view, s.age = view, 0
 	keep(out, api.Rec{Kind: api.RecView, Leader: s.leader, View: view})
 }
 

@@ -276,22 +276,54 @@ func TestHearNewInItsView(t *testing.T) {
 	w.quiet("waiting", s, 7)
 	w.saidIs("no record of the view", w.hears(s, 2, w.begins(1, w.change(1), 0, 1, 2)), []api.Rec{accepted(10, 1, none), accepted(14, 1, none)},
 		w.prepare(1, 10, none), w.prepare(1, 14, none))
-	// Its age is 0 from then on; hearing it again does not change that.
-	w.quiet("begun", s, 5)
+	w.viewIs("begun", s, 1, true)
+	// What it waited counts; hearing it again does not change that.
+	w.quiet("begun", s, 2)
 	w.hears(s, 2, w.begins(1, w.change(1), 0, 1, 2))
-	w.quiet("begun", s, 6)
+	w.quiet("begun", s, 2)
 	w.saidIs("the last tick", s.Tick(), []api.Rec{w.goes(2)}, w.change(2))
 }
 
-func TestHearNewMakesItYoung(t *testing.T) {
+func TestHearNewInItsViewAtTheEnds(t *testing.T) {
 	w := four(t)
+	for _, timeout := range []int{api.MinTimeout, api.MaxTimeout} {
+		w.e.Config.Timeout = timeout
+		for _, waited := range []int{0, 1, timeout - 1} {
+			s := w.node(3)
+			w.hears(s, 0, w.change(1))
+			w.hears(s, 1, w.change(1))
+			w.quiet("waiting", s, waited)
+			w.hears(s, 2, w.begins(1, w.change(1), 0, 1, 2))
+			w.quiet("begun", s, timeout-1-waited)
+			w.saidIs("the last tick", s.Tick(), []api.Rec{w.goes(2)}, w.change(2))
+		}
+	}
+	// Ticks alone, ahead of the quorum, are no age: the view has its whole time yet.
 	s := w.node(3)
+	w.quiet("view 0", s, api.MaxTimeout-1)
+	s.Tick()
+	w.quiet("alone", s, 100)
+	w.hears(s, 2, w.begins(1, w.change(1), 0, 1, 2))
+	w.quiet("begun", s, api.MaxTimeout-1)
+	w.saidIs("the last tick", s.Tick(), []api.Rec{w.goes(2)}, w.change(2))
+}
+
+func TestHearNewOfALaterViewMakesItYoung(t *testing.T) {
+	w := four(t)
+	s := w.node(0)
 	w.quiet("view 0", s, 11)
 	w.hears(s, 2, w.begins(1, w.change(1), 0, 1, 2))
 	w.quiet("view 1", s, 11)
-	if said := s.Tick(); len(said.Recs) != 1 {
-		t.Errorf("%v", said)
-	}
+	// A view that is above the one that runs, and one above the one that is waited for.
+	w.hears(s, 3, w.begins(2, w.change(2), 0, 1, 2))
+	w.quiet("view 2", s, 11)
+	w.saidIs("the last tick", s.Tick(), []api.Rec{w.goes(3)}, w.change(3))
+	w.hears(s, 2, w.change(3))
+	w.hears(s, 3, w.change(3))
+	w.quiet("waiting", s, 11)
+	w.hears(s, 1, w.begins(4, w.change(4), 1, 2, 3))
+	w.quiet("view 4", s, 11)
+	w.saidIs("the last tick", s.Tick(), []api.Rec{w.goes(5)}, w.change(5))
 }
 
 func TestHearNewRefuses(t *testing.T) {
