@@ -101,7 +101,7 @@ func (c *Cluster) submit(a Act) api.Errno {
 	return m.node.Submit(r)
 }
 
-// made makes the request of an act. Of a client who is none there is no key, which is no fault of the nodes' number.
+// made makes the request of an act. A client beyond the config's is refused here: request would tell of a key that is missing.
 func (c *Cluster) made(a Act) (api.Request, api.Errno) {
 	if a.N < 0 || a.N >= c.config.Clients {
 		return api.Request{}, api.ErrRequest

@@ -415,3 +415,89 @@ func TestWhateverHappens(t *testing.T) {
 	}
 	t.Log(met)
 }
+
+// someConf is a setting by chance, of few nodes.
+func someConf(below func(n int) int) Conf {
+	pick := func(l ...int) int { return l[below(len(l))] }
+	n := pick(4, 4, 4, 7, 7, 10)
+	c := Conf{Config: api.Config{
+		Nodes: n, Clients: 1 + below(4), Window: pick(1, 2, 3, 8, 64), Buckets: 1 + below(n), Cap: pick(1, 2, 3, 5, 16), Slots: 1 + below(4),
+		Requests: 1 + below(4), Timeout: pick(12, 12, 13, 20), Penalty: pick(0, 1, 2, 8), Last: pick(1000, 1000, 3),
+	}}
+	for i := range n {
+		if len(c.Faulty) < quorum.Faults(n) && below(2) == 0 {
+			c.Faulty = append(c.Faulty, i)
+		}
+	}
+	for i := range c.Config.Clients {
+		if below(3) == 0 {
+			c.Liars = append(c.Liars, i)
+		}
+	}
+	return c
+}
+
+// The same in whatever setting; and behind it once more.
+func TestWhateverSetting(t *testing.T) {
+	ways := []func(s *sim){silent, lying, choosy, both}
+	met := map[string]int{}
+	for seed := range 12 * *more {
+		below := random(seed + 5000)
+		c := someConf(below)
+		s := newSim(t, c, seed, met)
+		for range 300 + below(700) {
+			s.step()
+		}
+		s.settle(ways[below(len(ways))])
+		s.settle(ways[below(len(ways))])
+		if t.Failed() {
+			t.Fatalf("seed %d: %+v", seed, c)
+		}
+	}
+	if met["last ones"] == 0 {
+		t.Error("nothing was asked for")
+	}
+	t.Log(met)
+}
+
+// W3: one node's power fails at each operation of its tape, whatever is kept, and it starts again.
+func TestEachOperation(t *testing.T) {
+	c := conf()
+	c.Config.Slots = 2
+	met := map[string]int{}
+	for _, keep := range []int{-1, 40, 1 << 20} {
+		for op := 0; ; op++ {
+			w := watched(t, c, 1, met)
+			w.act(Act{Kind: Arm, Node: 1, N: op, M: keep})
+			for num := 1; num <= 3; num++ {
+				for i := range 4 {
+					w.act(Act{Kind: Submit, Node: i, N: 0, M: num, Data: "data"})
+				}
+			}
+			failed := false
+			for range 9 {
+				for i := range 4 {
+					w.act(Act{Kind: Tick, Node: i})
+				}
+				for range w.Len() {
+					w.act(Act{Kind: Deliver})
+					if !w.On(1) {
+						failed = true
+						w.act(Act{Kind: Start, Node: 1})
+					}
+				}
+			}
+			if w.Count(1) != 3 || w.State(1).Epoch < 2 || !w.On(1) {
+				t.Fatalf("operation %d, %d kept: %s", op, keep, w.toldOf(1))
+			}
+			if !failed {
+				met["operations"] += op
+				break
+			}
+		}
+	}
+	if met["started later"] == 0 || met["started with less"] == 0 {
+		t.Error(met)
+	}
+	t.Log(met)
+}
